@@ -231,6 +231,19 @@ func runTo(t *testing.T, l level, list []input, n int) state {
 	return s
 }
 
+// checkNoneRunning checks that there are no more goroutines than before.
+func checkNoneRunning(t *testing.T, before int) {
+	t.Helper()
+	// The last step of a goroutine may come a little later than its last word.
+	for range 200 {
+		if runtime.NumGoroutine() <= before {
+			return
+		}
+		time.Sleep(time.Millisecond)
+	}
+	t.Errorf("there were %d goroutines, now there are %d", before, runtime.NumGoroutine())
+}
+
 func TestConstantsOfChapter21(t *testing.T) {
 	if impl.Every != 5 {
 		t.Errorf("Every is %d", impl.Every)
@@ -745,14 +758,7 @@ func TestRunsLeaveNothingRunning(t *testing.T) {
 			impl.RunPath(l, drives(20))
 		}
 	}
-	// The last step of a goroutine may come a little later than its last word.
-	for range 200 {
-		if runtime.NumGoroutine() <= before {
-			return
-		}
-		time.Sleep(time.Millisecond)
-	}
-	t.Errorf("there were %d goroutines, now there are %d", before, runtime.NumGoroutine())
+	checkNoneRunning(t, before)
 }
 
 func TestRunsAtTheSameTime(t *testing.T) {

@@ -7,7 +7,6 @@ import (
 	"slices"
 	"sync"
 	"testing"
-	"time"
 
 	"loop.example/replayverifier/impl"
 )
@@ -571,14 +570,7 @@ func TestDivergenceLeavesNothingRunning(t *testing.T) {
 			impl.DivergeReport(level{}, nil, counted(length))
 		}
 	}
-	// The last step of a goroutine may come a little later than its last word.
-	for range 200 {
-		if runtime.NumGoroutine() <= before {
-			return
-		}
-		time.Sleep(time.Millisecond)
-	}
-	t.Errorf("there were %d goroutines, now there are %d", before, runtime.NumGoroutine())
+	checkNoneRunning(t, before)
 }
 
 // Nothing reads a list any more once the call returns, and all its numbers were
