@@ -653,7 +653,7 @@ func TestScriptsWithOtherBytes(t *testing.T) {
 	for index, text := range fewScripts() {
 		for b := range 256 {
 			// All bytes for one script, those that matter for the others.
-			if index > 0 && !slices.Contains([]byte("\x00\t\n 0179-"), byte(b)) {
+			if index > 0 && !slices.Contains([]byte("\x00\n 09"), byte(b)) {
 				continue
 			}
 			for place := range len(text) {
@@ -664,12 +664,13 @@ func TestScriptsWithOtherBytes(t *testing.T) {
 	}
 }
 
-// Each two bytes of a script change places, and each one is left out.
+// Each two bytes of a script that are near to each other change places, and each
+// one is left out.
 func TestScriptsWithMovedBytes(t *testing.T) {
 	for _, text := range fewScripts() {
 		for one := range len(text) {
 			checkScript(t, text[:one]+text[one+1:])
-			for other := one + 1; other < min(len(text), one+20); other++ {
+			for other := one + 1; other < min(len(text), one+8); other++ {
 				moved := []byte(text)
 				moved[one], moved[other] = moved[other], moved[one]
 				checkScript(t, string(moved))
